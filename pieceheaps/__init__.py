@@ -1,0 +1,1 @@
+"""Heaps in pieces: tellings of heaps, and programs of a few steps on them."""
