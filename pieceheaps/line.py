@@ -12,10 +12,23 @@ LOAD = 7
 STORE = 8
 NEW = 9
 FREE = 10
+UNDO = 11
+SWAP = 12
+TRIPLE = 13
+SAFE = 14
+SAYS = 15
+FRAME = 16
+CAN = 17
+SURELY = 18
+FITS = 19
+RUN = 20
 
 NOT_ALLOWED = -1
 NO_SUCH_NAME = -2
+NO_WORLD_TOLD = -3
 FULL = -5
+NEVER_SO = -6
+NONE_THERE = -7
 
 FIRST_GREATEST = 3
 MOST_GREATEST = 4
@@ -103,3 +116,17 @@ def add_step(line, kind, x, y):
         return FULL
     line.steps.append((kind, x, y))
     return len(line.steps)
+
+
+def undo_step(line):
+    """Take the last step away; how many steps are left."""
+    if len(line.steps) == 0:
+        return NONE_THERE
+    line.steps.pop()
+    return len(line.steps)
+
+
+def swap_tellings(line):
+    """Let the tellings change places; how many facts each has then."""
+    line.tellings.reverse()
+    return [len(telling) for telling in line.tellings]
